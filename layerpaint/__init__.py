@@ -1,0 +1,1 @@
+"""A picture editor: layers, a choice of pixels, deeds that can be undone and done again."""
