@@ -10,7 +10,9 @@ from layerpaint.mixing import shown_dot
 from layerpaint.picture import first_picture
 from layerpaint.picture import worked_dots
 from layerpaint.refusals import CannotBe
+from layerpaint.refusals import NotNow
 from layerpaint.refusals import NotSoTold
+from layerpaint.refusals import Refusal
 from layerpaint.refusals import TooMany
 
 LONGEST_SIDE = 12
@@ -41,16 +43,22 @@ class Desk:
             raise NotSoTold()
         if self.recording and len(self.recorded) >= MOST_RECORDED:
             raise TooMany()
+        price = self.do_deed(deed, more)
+        if self.recording:
+            self.recorded.append((deed, more))
+        return [price, len(self.history.kept)]
+
+    # All that can be refused comes ahead of the first change, so that a
+    # refused deed leaves all as it was.
+    def do_deed(self, deed, more):
         before = self.picture
         after = picture_after(before, self.aside, deed, more)
-        spent = cost(before, after)
-        self.history.deed_done(before, spent)
+        price = cost(before, after)
+        self.history.deed_done(before, price)
         self.picture = after
         if deed == CUT:
             self.aside = lifted(before)
-        if self.recording:
-            self.recorded.append((deed, more))
-        return [spent, len(self.history.kept)]
+        return price
 
     def undo(self):
         self.picture = self.history.step_back(self.picture)
@@ -81,3 +89,46 @@ class Desk:
 
     def chosen_row(self, y):
         return [self.picture.w] + [self.picture.chosen[place] for place in self.places(y)]
+
+    def listed(self):
+        picture = self.picture
+        answer = [picture.worked, picture.w, picture.h, len(picture.layers)]
+        for layer in picture.layers:
+            answer.extend([layer.number, layer.seen, layer.strong, layer.way])
+        return answer
+
+    def history_told(self):
+        past = self.history
+        return [len(past.kept), past.spent, len(past.undone), len(self.recorded)]
+
+    # Copying is no deed: no state is kept for it, and what may be redone stays.
+    def copy_dots(self):
+        self.aside = lifted(self.picture)
+        return [len(self.aside)]
+
+    def start_recording(self):
+        self.recording = True
+        self.recorded = []
+        return [0]
+
+    def stop_recording(self):
+        self.recording = False
+        return [len(self.recorded)]
+
+    def play_recorded(self):
+        if self.recording:
+            raise NotNow()
+        many = 0
+        for deed, more in self.recorded:
+            if not self.try_deed(deed, more):
+                break
+            many += 1
+        return [many, len(self.history.kept)]
+
+    # False if the deed is refused; all is as it was then.
+    def try_deed(self, deed, more):
+        try:
+            self.do_deed(deed, more)
+        except Refusal:
+            return False
+        return True

@@ -24,27 +24,37 @@ def fill(picture, more):
     return with_all_become(picture, (more[0], more[1]))
 
 
-def around(centre, reach, size):
-    return [min(max(centre + step, 0), size - 1) for step in range(-reach, reach + 1)]
+def padded(line, reach):
+    return [line[0]] * reach + line + [line[-1]] * reach
 
 
-def window(picture, colours, place, reach):
-    columns = around(place % picture.w, reach, picture.w)
+# The colours row by row, going on beyond the picture as the nearest at its
+# edge, so that each window is a plain piece of them.
+def padded_rows(picture, reach):
+    colours = worked_colours(picture)
+    rows = []
+    for start in range(0, len(colours), picture.w):
+        rows.append(padded(colours[start:start + picture.w], reach))
+    return padded(rows, reach)
+
+
+def window(rows, x, y, reach):
+    wide = 2 * reach + 1
     found = []
-    for y in around(place // picture.w, reach, picture.h):
-        found.extend([colours[y * picture.w + x] for x in columns])
+    for line in rows[y:y + wide]:
+        found.extend(line[x:x + wide])
     return found
 
 
 # The colours are taken out beforehand, so that each window is looked at as it
 # was before.
 def recoloured(picture, reach, taken):
-    colours = worked_colours(picture)
+    rows = padded_rows(picture, reach)
     free = may_change(picture)
     dots = []
     for place, dot in enumerate(worked_dots(picture)):
         if free[place]:
-            dots.append((taken(window(picture, colours, place, reach)), dot[1]))
+            dots.append((taken(window(rows, place % picture.w, place // picture.w, reach)), dot[1]))
         else:
             dots.append(dot)
     return with_worked_dots(picture, dots)

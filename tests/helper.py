@@ -35,6 +35,30 @@ def chosen(y):
     return [7, y]
 
 
+def listed():
+    return [8]
+
+
+def history():
+    return [9]
+
+
+def copy():
+    return [10]
+
+
+def record():
+    return [11]
+
+
+def stop():
+    return [12]
+
+
+def play():
+    return [13]
+
+
 def split(told):
     """The answers, one list for each call."""
     found = []
@@ -69,6 +93,11 @@ def all_rows(h):
 def look(h, *calls):
     """All that can be seen behind these calls, the picture being h high."""
     return ask(*calls, *all_rows(h))[len(calls):]
+
+
+def everything(h, *calls):
+    """All that can be asked behind these calls, the picture being h high."""
+    return ask(*calls, listed(), history(), *all_rows(h))[len(calls):]
 
 
 def shown(h, *calls):
@@ -132,9 +161,11 @@ class Naive:
         self.kept = []
         self.redos = []
         self.aside = None
+        self.tape = []
+        self.taping = False
         return [0]
 
-    def copy(self):
+    def fresh(self):
         s = dict(self.state)
         s["order"] = list(s["order"])
         s["how"] = dict(s["how"])
@@ -149,16 +180,17 @@ class Naive:
 
     def act(self, deed, more):
         refuse_if(deed not in self.COUNTS or len(more) != self.COUNTS[deed], -3)
-        aside = self.aside
+        refuse_if(self.taping and len(self.tape) == 40, -5)
+        new = getattr(self, "deed%d" % deed)(self.fresh(), *more)
         if deed == 14:
-            aside = {p: self.state["dots"][self.state["on"]][p] for p in self.free()}
-        new = getattr(self, "deed%d" % deed)(self.copy(), *more)
+            self.copy()
         spent = self.cost(self.state, new)
         self.kept.insert(0, (self.state, spent))
         self.trim()
         self.redos = []
         self.state = new
-        self.aside = aside
+        if self.taping:
+            self.tape = self.tape + [(deed, tuple(more))]
         return [spent, len(self.kept)]
 
     def trim(self):
@@ -209,6 +241,37 @@ class Naive:
     def chosen(self, y):
         refuse_if(y >= self.state["h"], -1)
         return [self.state["w"]] + [int((x, y) in self.state["chosen"]) for x in range(self.state["w"])]
+
+    def listed(self):
+        told = [self.state["on"], self.state["w"], self.state["h"], len(self.state["order"])]
+        for i in self.state["order"]:
+            told += (i,) + self.state["how"][i]
+        return told
+
+    def history(self):
+        return [len(self.kept), sum(c for _, c in self.kept), len(self.redos), len(self.tape)]
+
+    def copy(self):
+        self.aside = {p: self.state["dots"][self.state["on"]][p] for p in self.free()}
+        return [len(self.aside)]
+
+    def record(self):
+        self.tape = []
+        self.taping = True
+        return [0]
+
+    def stop(self):
+        self.taping = False
+        return [len(self.tape)]
+
+    def play(self):
+        refuse_if(self.taping, -6)
+        for many, (deed, more) in enumerate(self.tape):
+            try:
+                self.act(deed, more)
+            except Refused:
+                return [many, len(self.kept)]
+        return [len(self.tape), len(self.kept)]
 
     def deed0(self, s):
         refuse_if(len(s["order"]) == 5, -5)
@@ -383,6 +446,7 @@ class Naive:
                 return self.begin(call[1], call[2], call[3], call[5:])
             if call[0] == 2:
                 return self.act(call[1], call[3:])
-            return (self.undo, self.redo, self.row, self.own, self.chosen)[call[0] - 3](*call[1:])
+            return (self.undo, self.redo, self.row, self.own, self.chosen, self.listed, self.history, self.copy,
+                    self.record, self.stop, self.play)[call[0] - 3](*call[1:])
         except Refused as refused:
             return [refused.args[0]]

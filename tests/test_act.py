@@ -2,10 +2,7 @@
 
 import unittest
 
-from layerpaint.desk import Desk
-from layerpaint.refusals import Refusal
-
-from helper import BIG, Naive, act, ask, begin, last, look, redo, undo
+from helper import BIG, Naive, act, ask, begin, everything, last, redo, undo
 
 BEFORE = [begin(3, 2, 500, [1, 2, 3, 4, 5, 6]), act(0), act(10, 9, 99), act(5, 0, 1, 0, 2, 1), act(14), act(7, 0),
           undo()]
@@ -45,7 +42,7 @@ class RefusedTest(unittest.TestCase):
             told = last(*BEFORE, refused)
             self.assertEqual(len(told), 1)
             self.assertLess(told[0], 0)
-            self.assertEqual(look(2, *BEFORE, refused), look(2, *BEFORE))
+            self.assertEqual(everything(2, *BEFORE, refused), everything(2, *BEFORE))
             self.assertEqual(ask(*BEFORE, refused, *AFTER)[len(BEFORE) + 1:], ask(*BEFORE, *AFTER)[len(BEFORE):])
 
     def test_refused_by_what_there_is(self):
@@ -53,69 +50,9 @@ class RefusedTest(unittest.TestCase):
         for calls, refused, number in ((full, act(0), -5), (full, act(15), -5), (full, act(17), -6),
                                        ([*full, act(4, 0)], act(16), -6), ([], act(1, 0), -6), ([], act(15), -6)):
             self.assertEqual(last(*calls, refused), [number])
-            self.assertEqual(look(1, *calls, refused), look(1, *calls))
+            self.assertEqual(everything(1, *calls, refused), everything(1, *calls))
             after = [act(1, 4), act(0), undo(), undo(), undo()]
             self.assertEqual(ask(*calls, refused, *after)[len(calls) + 1:], ask(*calls, *after)[len(calls):])
-
-
-class RecordedTest(unittest.TestCase):
-    """act refuses one deed more than 40 while it is recording; the desk is set to that by hand."""
-
-    def desk(self, many):
-        desk = Desk()
-        desk.recording = True
-        for _ in range(many):
-            desk.act(4, [0])
-        return desk
-
-    def refusal(self, desk, deed, more):
-        with self.assertRaises(Refusal) as caught:
-            desk.act(deed, more)
-        return caught.exception.answer
-
-    def test_40_deeds_are_recorded(self):
-        desk = self.desk(39)
-        self.assertEqual(desk.act(10, [7, 8]), [2, 40])
-        self.assertEqual(len(desk.recorded), 40)
-        self.assertEqual(self.refusal(desk, 10, [1, 1]), -5)
-        self.assertEqual(desk.own(0), [1, 7, 8])
-        self.assertEqual(len(desk.recorded), 40)
-
-    def test_told_behind_a_wrong_count_and_ahead_of_the_deed(self):
-        desk = self.desk(40)
-        self.assertEqual(self.refusal(desk, 10, [1]), -3)
-        self.assertEqual(self.refusal(desk, 19, []), -3)
-        self.assertEqual(self.refusal(desk, 10, [256, 0]), -5)
-        self.assertEqual(self.refusal(desk, 4, [9]), -5)
-
-    def test_not_recording_it_goes_on(self):
-        desk = self.desk(40)
-        desk.recording = False
-        self.assertEqual(desk.act(4, [0]), [1, 41])
-        self.assertEqual(len(desk.recorded), 40)
-
-    def test_refused_deeds_are_not_recorded(self):
-        desk = self.desk(1)
-        self.assertEqual(self.refusal(desk, 4, [9]), -2)
-        self.assertEqual(desk.recorded, [(4, [0])])
-
-    def test_undone_and_redone_it_stays_as_it_is(self):
-        desk = self.desk(2)
-        desk.undo()
-        self.assertEqual(len(desk.recorded), 2)
-        desk.redo()
-        self.assertEqual(len(desk.recorded), 2)
-
-    def test_behind_begin_it_is_not_recording(self):
-        desk = self.desk(40)
-        desk.begin(1, 1, 50, [3])
-        self.assertFalse(desk.recording)
-        self.assertEqual(desk.recorded, [])
-        self.assertEqual(desk.act(4, [0]), [1, 1])
-        self.assertEqual(desk.recorded, [])
-
-    def test_from_the_list_of_calls_nothing_is_recorded(self):
-        self.assertEqual(last(*[act(4, 0)] * 60), [1, 60])
 
 
 if __name__ == "__main__":

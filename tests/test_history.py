@@ -1,8 +1,10 @@
-"""What is kept to be undone within the budget; undone and redone."""
+"""What is kept to be undone within the budget; undone and redone; the call history."""
 
+import random
 import unittest
 
-from helper import act, ask, begin, last, look, own, redo, row, undo
+from helper import (act, ask, begin, copy, everything, history, last, look, own, play, record, redo, row, stop,
+                    undo)
 
 
 def line(budget):
@@ -108,6 +110,81 @@ class UndoTest(unittest.TestCase):
         before = [begin(1, 1, 99, [100]), act(0), act(10, 50, 255), act(3, 1, 1, 255, 5)]
         self.assertEqual(ask(*before, row(0), act(3, 1, 0, 255, 0), row(0), undo(), row(0), redo(), row(0))[4:],
                          [[1, 50, 255], [1, 4], [1, 100, 255], [3, 1], [1, 50, 255], [4, 0], [1, 100, 255]])
+
+
+class HistoryCallTest(unittest.TestCase):
+    def test_at_first(self):
+        self.assertEqual(last(history()), [0, 0, 0, 0])
+        self.assertEqual(last(line(9), history()), [0, 0, 0, 0])
+
+    def test_behind_deeds(self):
+        self.assertEqual(ask(line(99), FILLS[0], history(), act(4, 0), history(), act(5, 0, 0, 0, 2, 1), history())[1:],
+                         [[5, 1], [1, 5, 0, 0], [1, 2], [2, 6, 0, 0], [3, 3], [3, 9, 0, 0]])
+
+    def test_behind_undo_and_redo(self):
+        self.assertEqual(ask(line(99), FILLS[0], act(4, 0), FILLS[1], undo(), history(), undo(), history(), undo(),
+                             history(), redo(), history(), redo(), redo(), history())[4:],
+                         [[2, 1], [2, 6, 1, 0], [1, 2], [1, 5, 2, 0], [0, 3], [0, 0, 3, 0], [1, 2], [1, 5, 2, 0],
+                          [2, 1], [3, 0], [3, 11, 0, 0]])
+
+    def test_a_deed_done_leaves_nothing_to_redo(self):
+        self.assertEqual(last(line(99), *FILLS, undo(), undo(), act(4, 0), history()), [2, 6, 0, 0])
+
+    def test_within_the_budget(self):
+        self.assertEqual(last(line(10), *FILLS, history()), [2, 10, 0, 0])
+        self.assertEqual(last(line(9), *FILLS, history()), [1, 5, 0, 0])
+        self.assertEqual(last(line(4), *FILLS, history()), [0, 0, 0, 0])
+        self.assertEqual(last(line(4), *FILLS, act(4, 0), history()), [1, 1, 0, 0])
+        self.assertEqual(last(line(10), *FILLS, undo(), history()), [1, 5, 1, 0])
+        self.assertEqual(last(line(10), *FILLS, undo(), undo(), redo(), redo(), history()), [2, 10, 0, 0])
+        self.assertEqual(last(line(7), act(4, 0), FILLS[0], act(4, 0), act(4, 0), history()), [3, 7, 0, 0])
+
+    def test_behind_record_and_stop(self):
+        self.assertEqual(ask(line(99), FILLS[0], record(), history(), FILLS[1], history(), undo(), history(), stop(),
+                             history(), act(4, 0), history(), record(), history())[3:],
+                         [[1, 5, 0, 0], [5, 2], [2, 10, 0, 1], [1, 1], [1, 5, 1, 1], [1], [1, 5, 1, 1], [1, 2],
+                          [2, 6, 0, 1], [0], [2, 6, 0, 0]])
+
+    def test_behind_play(self):
+        self.assertEqual(ask(line(12), record(), FILLS[0], FILLS[1], stop(), play(), history(), undo(), history())[5:],
+                         [[2, 2], [2, 10, 0, 2], [1, 1], [1, 5, 1, 2]])
+
+    def test_behind_begin(self):
+        self.assertEqual(last(line(99), record(), *FILLS, undo(), line(5), history()), [0, 0, 0, 0])
+
+    def test_looking_changes_nothing(self):
+        before = [line(99), record(), *FILLS, undo()]
+        self.assertEqual(everything(1, *before, history(), history()), everything(1, *before))
+        self.assertEqual(last(*before, history(), redo()), [3, 0])
+
+    def test_a_refusal_leaves_it(self):
+        before = [line(12), record(), *FILLS, undo()]
+        for refused in (act(10, 256, 0), act(19), act(4, 7), act(17), row(1), begin(0, 0, 0, []), play()):
+            self.assertEqual(ask(*before, refused, history())[-1], [1, 5, 1, 3])
+
+    def test_what_is_kept_costs_no_more_than_the_budget_together(self):
+        for seed in range(60):
+            source = random.Random(seed)
+            budget = source.choice([0, 1, 4, 7, 20, 60])
+            calls = [begin(3, 3, budget, [source.randint(0, 255) for _ in range(9)])]
+            while len(calls) < 118:
+                call = source.choice([undo(), redo(), copy(), record(), stop(), play(), act(4, 0), act(0), act(1, 1),
+                                      act(10, source.randint(0, 255), 255), act(5, source.randint(0, 4), 0, 1, 2, 1),
+                                      act(14), act(15), act(16), act(18, source.randint(0, 2)), act(17)])
+                calls.extend([call, history()])
+            before = [0, 0, 0, 0]
+            for call, told, (kept, spent, redos, recorded) in zip(calls[1::2], ask(*calls)[1::2], ask(*calls)[2::2]):
+                self.assertLessEqual(spent, budget)
+                self.assertLessEqual(kept, spent)
+                self.assertEqual(kept == 0, spent == 0)
+                self.assertLessEqual(recorded, 40)
+                if call[0] == 2 and told[0] > 0:
+                    self.assertEqual((kept, redos), (told[1], 0))
+                elif call[0] in (3, 4) and told[0] >= 0:
+                    self.assertEqual([kept, redos], told)
+                elif call[0] != 13 or told[0] <= 0:
+                    self.assertEqual([kept, spent, redos], before[:3])
+                before = [kept, spent, redos, recorded]
 
 
 if __name__ == "__main__":

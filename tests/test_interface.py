@@ -4,10 +4,13 @@ import unittest
 
 from layerpaint.editor import answers
 
-from helper import BIG, act, ask, begin, chosen, last, look, own, redo, row, undo
+from helper import (BIG, Naive, act, ask, begin, chosen, copy, everything, history, last, listed, own, play, record,
+                    redo, row, stop, undo)
 
 MANY_KINDS = (begin(2, 2, 60, [1, 2, 3, 4]), act(5, 0, 0, 0, 1, 2), act(10, 9, 100), act(0), act(10, 200, 77),
-              undo(), redo(), row(0), own(1), chosen(0), act(14), act(15), act(19), row(2))
+              undo(), redo(), row(0), own(1), chosen(0), act(14), act(15), act(19), row(2), listed(), record(),
+              act(4, 0), act(10, 3, 250), act(4, 1), play(), stop(), copy(), play(), history(), listed(), undo(),
+              own(0))
 
 
 def flat(calls):
@@ -20,8 +23,14 @@ class FormTest(unittest.TestCase):
                                        chosen(0), row(1)])),
                          [1, 0, 2, 3, 1, 2, 0, 1, 2, 1, 0, 5, 2, 3, 4, 3, 4, 5, 2, 3, 4, 3, 4, 3, 2, 0, 0, 1, -1])
 
+    def test_count_then_numbers_of_the_calls_without_numbers(self):
+        self.assertEqual(answers([8, 9, 10, 11, 2, 4, 1, 0, 13, 12, 13, 9]),
+                         [8, 0, 1, 1, 1, 0, 1, 255, 0, 4, 0, 0, 0, 0, 1, 1, 1, 0, 2, 1, 1, 1, -6, 1, 1, 2, 1, 2,
+                          4, 2, 2, 0, 1])
+
     def test_a_refusal_is_one_number(self):
         self.assertEqual(answers([3]), [1, -6])
+        self.assertEqual(answers([11, 13]), [1, 0, 1, -6])
         self.assertEqual(answers([2, 19, 0]), [1, -3])
 
     def test_all_answers_are_plain_whole_numbers(self):
@@ -34,7 +43,8 @@ class FormTest(unittest.TestCase):
 
 class BeginningTest(unittest.TestCase):
     def test_at_first_as_behind_begin_with_one_pixel(self):
-        calls = [row(0), own(0), chosen(0), row(1), undo(), redo(), act(15), act(10, 5, 6), row(0), undo(), row(0)]
+        calls = [row(0), own(0), chosen(0), row(1), listed(), history(), play(), stop(), undo(), redo(), act(15),
+                 act(10, 5, 6), row(0), undo(), row(0), copy(), history(), listed()]
         self.assertEqual(ask(*calls), ask(begin(1, 1, 100, [0]), *calls)[1:])
         self.assertEqual(ask(row(0), own(0), chosen(0), row(1)), [[1, 0, 255], [1, 0, 255], [1, 0], [-1]])
 
@@ -44,9 +54,11 @@ class BeginningTest(unittest.TestCase):
         self.assertEqual(told[100], [1, 100])
 
     def test_begin_again_forgets_all(self):
-        before = [begin(3, 2, 500, [1, 2, 3, 4, 5, 6]), act(0), act(10, 1, 2), act(5, 0, 0, 0, 2, 2), act(14), undo()]
-        after = [undo(), redo(), act(15), row(0), own(1), chosen(1), act(0), act(1, 1), act(1, 2)]
-        self.assertEqual(ask(*before, begin(2, 2, 30, [9, 8, 7, 6]), *after)[7:],
+        before = [begin(3, 2, 500, [1, 2, 3, 4, 5, 6]), act(0), act(10, 1, 2), record(), act(5, 0, 0, 0, 2, 2), act(14),
+                  copy(), undo()]
+        after = [history(), listed(), undo(), redo(), act(15), play(), row(0), own(1), chosen(1), act(0), act(1, 1),
+                 act(1, 2), stop(), history(), listed()]
+        self.assertEqual(ask(*before, begin(2, 2, 30, [9, 8, 7, 6]), *after)[9:],
                          ask(begin(2, 2, 30, [9, 8, 7, 6]), *after)[1:])
 
     def test_begin_again_takes_its_own_budget(self):
@@ -64,9 +76,10 @@ class HandedInTest(unittest.TestCase):
     def test_the_same_answers_when_asked_twice(self):
         calls = flat(MANY_KINDS)
         first = answers(calls)
-        answers(flat([begin(1, 1, 7, [3]), act(14)]))
+        answers(flat([begin(1, 1, 7, [3]), record(), act(14)]))
         self.assertEqual(answers(calls), first)
-        self.assertEqual(answers(flat([act(15)])), [1, -6])
+        self.assertEqual(answers(flat([act(15), play(), stop(), history()])),
+                         [1, -6, 2, 0, 0, 1, 0, 4, 0, 0, 0, 0])
 
     def test_what_is_answered_is_nobody_elses(self):
         calls = flat([begin(1, 1, 7, [3]), row(0)])
@@ -88,6 +101,50 @@ class LongTest(unittest.TestCase):
         self.assertEqual(told[59][1], 59)
         self.assertEqual(told[118], [0, 59])
         self.assertEqual(told[119], [12] + flat([(132 + x, 255) for x in range(12)]))
+
+    def all_thirteen(self):
+        """120 calls on the greatest picture, each of the thirteen among them several times."""
+        calls = [begin(12, 12, 3000, [k * 7 % 256 for k in range(144)]), record()]
+        for k in range(5):
+            calls.extend([act(5, 1, k, 2 * k, 4, 3), act(10, 40 * k, 255 - k), act(11, k % 5), act(13, 15 + k % 3, 17),
+                          act(12, 1, k, 5), act(8, k)])
+        calls.extend([stop(), act(0), play(), copy(), act(15), listed(), history()])
+        for k in range(12):
+            calls.extend([row(k), own(11 - k), chosen(k), undo() if k % 3 else play(), redo()])
+        calls.extend([begin(3, 2, 200, [1, 2, 3, 4, 5, 6]), record(), act(14), act(15), act(18, 2), listed(), stop(),
+                      history(), play(), listed(), history(), copy(), act(15), act(16), undo(), undo(), redo(), row(1),
+                      own(1), chosen(1), row(3)])
+        return calls
+
+    def test_120_calls_with_all_thirteen_among_them(self):
+        calls = self.all_thirteen()
+        self.assertEqual(len(calls), 120)
+        self.assertEqual(sorted({call[0] for call in calls}), list(range(1, 14)))
+        handed = flat(calls)
+        kept = list(handed)
+        first = answers(handed)
+        self.assertEqual(handed, kept)
+        self.assertEqual(answers(handed), first)
+        self.assertEqual(answers(kept), first)
+        naive = Naive()
+        self.assertEqual(ask(*calls), [naive.told(call) for call in calls])
+        self.assertEqual({type(number) for number in first}, {int})
+
+    def test_played_as_often_as_120_calls_allow(self):
+        calls = [begin(12, 12, 10 ** 6, [k for k in range(144)]), record(), *[act(18, 2)] * 40, stop(), *[play()] * 76]
+        told = ask(*calls, own(0))
+        self.assertEqual(len(calls) + 1, 120)
+        self.assertEqual(told[-2][0], 40)
+        self.assertEqual(told[-1], [12] + flat([(x, 255) for x in range(12)]))
+
+    def test_exactly_16000_numbers(self):
+        calls = [begin(12, 12, 9, [3] * 144), record(), *[act(0, *[BIG] * 1024)] * 15]
+        calls.extend([act(10, k, 255) for k in range(30)])
+        calls.extend([stop(), play(), history(), listed()])
+        rest = 16000 - len(flat(calls))
+        calls.append(act(10, *[1] * (rest - 3)))
+        self.assertEqual(len(flat(calls)), 16000)
+        self.assertEqual(ask(*calls)[-5:], [[30], [30, 0], [0, 0, 0, 30], [0, 12, 12, 1, 0, 1, 255, 0], [-3]])
 
     def test_lists_of_1024_numbers_and_16000_in_all(self):
         long = [begin(12, 12, 9, [0] * 1024), act(13, *([16] * 1024))]
@@ -130,7 +187,8 @@ class RowsTest(unittest.TestCase):
 
     def test_looking_changes_nothing(self):
         before = [self.START, act(0), act(10, 4, 5), undo()]
-        self.assertEqual(look(3, *before, row(0), own(1), chosen(2), row(3), own(3), chosen(3)), look(3, *before))
+        self.assertEqual(everything(3, *before, row(0), own(1), chosen(2), row(3), own(3), chosen(3)),
+                         everything(3, *before))
         self.assertEqual(last(*before, row(0), own(0), chosen(0), redo()), last(*before, redo()))
 
 
@@ -170,7 +228,7 @@ class BeginTest(unittest.TestCase):
         before = [begin(2, 2, 60, [1, 2, 3, 4]), act(5, 0, 0, 0, 1, 1), act(14), act(0), undo()]
         after = [redo(), undo(), undo(), undo(), undo(), redo(), act(15), own(0)]
         for refused in (begin(0, 1, 5, []), begin(1, 1, BIG, [1]), begin(1, 1, 5, []), begin(1, 1, 5, [256])):
-            self.assertEqual(look(2, *before, refused), look(2, *before))
+            self.assertEqual(everything(2, *before, refused), everything(2, *before))
             self.assertEqual(ask(*before, refused, *after)[6:], ask(*before, *after)[5:])
 
 

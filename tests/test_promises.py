@@ -1,9 +1,10 @@
-"""The promises 1, 2, 3 and 5 as they stand, on pictures of several sizes."""
+"""The promises as they stand, on pictures of several sizes, also behind copy, record, stop and play."""
 
 import random
 import unittest
 
-from helper import act, ask, begin, look, redo, row, shown, undo
+from helper import (act, ask, begin, copy, everything, history, listed, look, play, record, redo, row, shown, stop,
+                    undo)
 
 SIZES = ((1, 1), (12, 12), (3, 7), (7, 3), (1, 12), (12, 1), (5, 5))
 
@@ -30,8 +31,107 @@ def done(told):
     return told[0] >= 0
 
 
+def some_session(source, w, h, budget, many):
+    """A picture, and deeds of which some are recorded and played; what is aside changes now and then."""
+    calls = [begin(w, h, budget, some_colours(source, w, h))]
+    for _ in range(many):
+        draw = source.random()
+        if draw < 0.6:
+            calls.append(keeps_size(source, w, h))
+        else:
+            calls.append(source.choice([copy(), record(), stop(), play(), play(), undo(), redo()]))
+    return calls + [stop(), play()]
+
+
+def played_out(calls):
+    """The same calls with each play replaced by the deeds that are recorded, one behind another, till one is refused;
+    and what each play should answer."""
+    out, expected = [], []
+    tape, taping = [], False
+    for call in calls:
+        if call == play() and taping:
+            expected.append([-6])
+        elif call == play():
+            deeds = []
+            while len(deeds) < len(tape) and done(ask(*out, *deeds, tape[len(deeds)])[-1]):
+                deeds.append(tape[len(deeds)])
+            out.extend(deeds)
+            expected.append([len(deeds), ask(*out, history())[-1][0]])
+        else:
+            out.append(call)
+            if call == record():
+                tape, taping = [], True
+            elif call == stop():
+                taping = False
+            elif call[0] == 2 and taping and done(ask(*out)[-1]):
+                tape.append(call)
+    return out, expected
+
+
+class PlayedTest(unittest.TestCase):
+    """Promise 4."""
+
+    def assert_played_as_done(self, h, calls):
+        out, expected = played_out(calls)
+        told = ask(*calls)
+        self.assertEqual([answer for call, answer in zip(calls, told) if call == play()], expected)
+        self.assertEqual(everything(h, *calls), everything(h, *out))
+        kept = ask(*out, history())[-1][0]
+        for after in ([undo()] * kept, [undo()] * (kept + 1) + [redo()] * (kept // 2), [redo()], [act(15), act(4, 0)],
+                      [act(1, 0), act(0)]):
+            self.assertEqual(everything(h, *calls, *after), everything(h, *out, *after))
+            self.assertEqual(ask(*calls, *after)[len(calls):], ask(*out, *after)[len(out):])
+
+    def test_as_these_deeds_would_do(self):
+        for seed, (w, h) in enumerate(SIZES * 8):
+            source = random.Random(seed)
+            budget = source.choice([0, 1, 5, 40, 150, 400, 10 ** 6])
+            self.assert_played_as_done(h, some_session(source, w, h, budget, 25))
+
+    def test_each_deed_by_itself(self):
+        start = [begin(3, 3, 500, [7, 90, 30, 4, 5, 200, 9, 9, 60]), act(0), act(10, 90, 100), act(5, 0, 1, 0, 2, 2)]
+        for deed in (act(0), act(1, 0), act(1, 1), act(2, 0), act(3, 1, 1, 50, 5), act(4, 0), act(5, 4, 0, 1, 2, 1),
+                     act(6, 1, 0, 0, 40, 1, 0), act(7, 4), act(8, 1), act(9, 1), act(10, 3, 4), act(11, 1),
+                     act(12, 1, 1, 2), act(13, 15, 17), act(14), act(15), act(16), act(17), act(18, 0), act(18, 1),
+                     act(18, 2)):
+            for between in ([], [undo()], [act(4, 0), copy()], [act(7, 0), act(14), undo()]):
+                for budget in (500, 12):
+                    begun = [begin(3, 3, budget, start[0][5:]), *start[1:]]
+                    self.assert_played_as_done(1, [*begun, copy(), record(), deed, stop(), *between, play(), play()])
+
+    def test_cropped_and_turned(self):
+        deeds = [act(5, 0, 1, 0, 5, 9), act(17), act(18, 2), act(14), act(15), act(13, 17, 15), act(16)]
+        for w, h in SIZES:
+            for budget in (0, 30, 300, 10 ** 6):
+                calls = [begin(w, h, budget, [k % 256 for k in range(w * h)]), record(), *deeds, stop()]
+                for times in (1, 2, 3):
+                    self.assert_played_as_done(1, [*calls, *[play()] * times])
+                self.assert_played_as_done(1, [*calls, undo(), undo(), play(), undo(), play()])
+
+
 class UndoneTest(unittest.TestCase):
     """Promise 1."""
+
+    def test_undone_behind_copy_record_stop_and_play(self):
+        for seed, (w, h) in enumerate(SIZES * 3):
+            source = random.Random(seed)
+            deeds = [keeps_size(source, w, h) for _ in range(8)]
+            calls = [begin(w, h, source.choice([60, 10 ** 6]), some_colours(source, w, h)), copy(), act(0), record(),
+                     *deeds, copy(), stop(), act(4, 0), play(), copy(), record(), stop()]
+            steps, _ = played_out(calls)
+            kept = ask(*calls, history())[-1][0]
+            seen = []
+            for place, call in enumerate(steps):
+                if call[0] == 1 or (call[0] == 2 and done(ask(*steps[:place + 1])[-1])):
+                    seen.append(self.pictures(h, *steps[:place + 1]))
+            for back in range(kept + 1):
+                self.assertEqual(self.pictures(h, *calls, *[undo()] * back), seen[-1 - back], seed)
+                again = [*[undo()] * back, copy(), record(), stop(), play(), *[redo()] * back]
+                self.assertEqual(self.pictures(h, *calls, *again), seen[-1], seed)
+            self.assertEqual(ask(*calls, *[undo()] * (kept + 1))[-1], [-6])
+
+    def pictures(self, h, *calls):
+        return look(h, *calls) + [ask(*calls, listed())[-1]]
 
     def test_undone_the_pictures_that_were_and_redone_again(self):
         for seed, (w, h) in enumerate(SIZES * 3):
@@ -72,35 +172,63 @@ class BudgetTest(unittest.TestCase):
                     self.assertGreater(sum(costs[:kept + 1]), budget)
                 costs = costs[:kept]
 
+    def test_when_played_too(self):
+        for seed, (w, h) in enumerate(SIZES * 3):
+            source = random.Random(seed)
+            budget = source.choice([0, 1, 5, 40, 150, 400])
+            calls = [call for call in some_session(source, w, h, budget, 40) if call not in (undo(), redo())]
+            steps, _ = played_out(calls)
+            costs = []
+            for told in [told for call, told in zip(steps, ask(*steps)) if call[0] == 2 and done(told)]:
+                costs = [told[0]] + costs
+                self.assertLessEqual(sum(costs[:told[1]]), budget)
+                if told[1] < len(costs):
+                    self.assertGreater(sum(costs[:told[1] + 1]), budget)
+                costs = costs[:told[1]]
+            self.assertEqual(ask(*calls, history())[-1][:3], [len(costs), sum(costs), 0])
+
 
 class OnlyChosenTest(unittest.TestCase):
     """Promise 3."""
 
     DEEDS = (act(10, 3, 77), act(11, 1), act(11, 4), act(12, 2, 1, 2), act(12, 4, 1, 1), act(14))
 
+    def some_layers(self, source, w, h, worked):
+        return [begin(w, h, 999, some_colours(source, w, h)), act(0), act(10, 200, 200), act(0),
+                act(6, 0, 0, 0, 0, 0, 0), act(10, 8, 9), act(4, worked),
+                act(5, 0, source.randrange(w), source.randrange(h), source.randint(0, 4), 3)]
+
+    def assert_only_what_may_change(self, w, h, worked, calls, doing):
+        before, after = look(h, *calls), look(h, *calls, *doing)
+        free = [told[1:] for told in before[2::3]]
+        if not any(map(any, free)):
+            free = [[1] * w] * h
+        for old, new, marks in zip(before[1::3], after[1::3], free):
+            for x, mark in enumerate(marks):
+                if not mark:
+                    self.assertEqual(old[1 + 2 * x:3 + 2 * x], new[1 + 2 * x:3 + 2 * x])
+        self.assertEqual(before[2::3], after[2::3])
+        self.assertEqual(ask(*calls, listed())[-1], ask(*calls, *doing, listed())[-1])
+        for i in range(3):
+            if i != worked:
+                self.assertEqual(look(h, *calls, *doing, act(4, i))[1::3], look(h, *calls, act(4, i))[1::3])
+
     def test_only_what_may_change_changes_on_the_layer_worked_on(self):
         for seed, (w, h) in enumerate(SIZES * 2):
             source = random.Random(seed)
             for deed in self.DEEDS:
-                calls = [begin(w, h, 999, some_colours(source, w, h)), act(0), act(10, 200, 200), act(0),
-                         act(6, 0, 0, 0, 0, 0, 0), act(10, 8, 9), act(4, source.randint(0, 2)),
-                         act(5, 0, source.randrange(w), source.randrange(h), source.randint(0, 4), 3)]
-                before, after = look(h, *calls), look(h, *calls, deed)
-                free = [told[1:] for told in before[2::3]]
-                if not any(map(any, free)):
-                    free = [[1] * w] * h
-                for old, new, marks in zip(before[1::3], after[1::3], free):
-                    for x, mark in enumerate(marks):
-                        if not mark:
-                            self.assertEqual(old[1 + 2 * x:3 + 2 * x], new[1 + 2 * x:3 + 2 * x])
-                self.assertEqual(before[2::3], after[2::3])
-                self.assert_other_layers_stay(h, calls, deed)
+                worked = source.randint(0, 2)
+                self.assert_only_what_may_change(w, h, worked, self.some_layers(source, w, h, worked), [deed])
 
-    def assert_other_layers_stay(self, h, calls, deed):
-        worked = calls[-2][3]
-        for i in range(3):
-            if i != worked:
-                self.assertEqual(look(h, *calls, deed, act(4, i))[1::3], look(h, *calls, act(4, i))[1::3])
+    def test_when_played_too(self):
+        for seed, (w, h) in enumerate(SIZES * 2):
+            source = random.Random(seed)
+            for deed in self.DEEDS:
+                worked = source.randint(0, 2)
+                other = act(5, 4, source.randrange(w), source.randrange(h), 2, 2)
+                calls = [*self.some_layers(source, w, h, 1), record(), deed, stop(), undo(), act(4, worked), other]
+                self.assert_only_what_may_change(w, h, worked, calls, [play()])
+                self.assert_only_what_may_change(w, h, worked, calls, [play(), copy(), play()])
 
 
 class AsItWasTest(unittest.TestCase):
@@ -116,6 +244,16 @@ class AsItWasTest(unittest.TestCase):
                 for i in range(5):
                     self.assertEqual(look(h, *calls, *turns, act(4, i)), look(h, *calls, act(4, i)))
 
+    def test_turned_back_by_playing(self):
+        for seed, (w, h) in enumerate(SIZES):
+            source = random.Random(seed)
+            calls = [begin(w, h, 10 ** 6, some_colours(source, w, h))]
+            calls.extend([keeps_size(source, w, h) for _ in range(20)])
+            before = look(h, *calls) + [ask(*calls, listed())[-1]]
+            for turn, times in ((act(18, 0), 1), (act(18, 1), 1), (act(18, 2), 3)):
+                again = [*calls, copy(), record(), turn, stop(), *[play()] * times]
+                self.assertEqual(look(h, *again) + [ask(*again, listed())[-1]], before)
+
     def test_turned_less_often_it_is_not(self):
         start = begin(2, 2, 99, [1, 2, 3, 4])
         for turns in ([act(18, 0)], [act(18, 1)], [act(18, 2)], [act(18, 2)] * 2, [act(18, 2)] * 3):
@@ -130,6 +268,9 @@ class AsItWasTest(unittest.TestCase):
                 calls.append(act(10, source.randint(0, 255), source.choice([0, 1, 255, source.randint(0, 255)])))
             for choice in (act(7, 2), act(7, 0), act(6, 4, 0, 0, 60, 0, 1), act(5, 0, 0, 0, 1, 1)):
                 self.assertEqual(shown(h, *calls, choice, act(14), act(15)), shown(h, *calls, choice))
+                again = [*calls, choice, record(), act(14), act(15), stop(), undo(), undo(), copy(), play()]
+                self.assertEqual(shown(h, *again), shown(h, *calls, choice))
+                self.assertEqual(ask(*again, listed())[-1], [1, w, h, 2, 0, 1, 255, 0, 1, 1, 255, 0])
 
     def test_two_layers_put_together_show_what_they_did(self):
         for seed, (w, h) in enumerate(SIZES * 4):
@@ -142,6 +283,9 @@ class AsItWasTest(unittest.TestCase):
                 calls.append(act(3, number, int(source.random() < 0.8), source.randint(0, 255), source.randint(0, 6)))
                 calls.append(act(0) if number == 0 else act(4, 1))
             self.assertEqual(shown(h, *calls, act(16)), shown(h, *calls))
+            again = [*calls, record(), act(16), stop(), undo(), copy(), play()]
+            self.assertEqual(shown(h, *again), shown(h, *calls))
+            self.assertEqual(ask(*again, listed())[-1][:4], [0, w, h, 1])
 
 
 class TurnedSizesTest(unittest.TestCase):
